@@ -1,0 +1,144 @@
+package syntax
+
+import "governor/api"
+
+// list reads statements, up to the word that ends them.
+func (p *parser) list(deep int) []api.Stmt {
+	p.depth(deep)
+	var list []api.Stmt
+	for !p.ended() && !p.ends() {
+		p.room(len(list), api.MaxStmts)
+		list = append(list, p.stmt(deep))
+	}
+	return list
+}
+
+// ends tells whether what stands next ends a list: a CASE's ends ahead of a label, too.
+func (p *parser) ends() bool {
+	switch p.now().Text {
+	case "END_PROGRAM", "END_METHOD", "END_IF", "END_CASE", "END_WHILE", "END_FOR", "ELSIF", "ELSE":
+		return true
+	}
+	return p.isInt()
+}
+
+func (p *parser) stmt(deep int) api.Stmt {
+	s := p.open(deep)
+	p.need(";")
+	return s
+}
+
+// open reads a statement without its semicolon.
+func (p *parser) open(deep int) api.Stmt {
+	switch {
+	case p.take("IF"):
+		return p.choice(deep)
+	case p.take("CASE"):
+		return p.cases(deep)
+	case p.take("WHILE"):
+		return p.while(deep)
+	case p.take("FOR"):
+		return p.loop(deep)
+	case p.take("RETURN"):
+		return p.answer()
+	case p.take("EXIT"):
+		return api.Stmt{Kind: api.Exit}
+	case p.take("STEP"):
+		return p.step()
+	case p.is("THIS"), p.is("SUPER"):
+		return api.Stmt{Kind: api.Do, Exprs: []api.Expr{p.operand(1)}}
+	}
+	return p.named(p.name())
+}
+
+// named reads a statement that begins with a name.
+func (p *parser) named(name string) api.Stmt {
+	switch {
+	case p.take(":="):
+		return api.Stmt{Kind: api.Assign, Name: name, Exprs: []api.Expr{p.expr(1)}}
+	case p.take("?="):
+		return api.Stmt{Kind: api.Attempt, Name: name, Exprs: []api.Expr{p.expr(1)}}
+	case p.take("["):
+		place := p.expr(1)
+		p.need("]", ":=")
+		return api.Stmt{Kind: api.Put, Name: name, Exprs: []api.Expr{place, p.expr(1)}}
+	}
+	return api.Stmt{Kind: api.Do, Exprs: []api.Expr{p.invoke(0, name, 1)}}
+}
+
+func (p *parser) choice(deep int) api.Stmt {
+	s := api.Stmt{Kind: api.If}
+	for {
+		s.Exprs = append(s.Exprs, p.expr(1))
+		p.need("THEN")
+		s.Blocks = append(s.Blocks, p.list(deep+1))
+		if !p.is("ELSIF") {
+			break
+		}
+		p.room(len(s.Exprs), api.MaxParts)
+		p.take("ELSIF")
+	}
+	s.Blocks = append(s.Blocks, p.otherwise(deep+1))
+	p.need("END_IF")
+	return s
+}
+
+func (p *parser) cases(deep int) api.Stmt {
+	s := api.Stmt{Kind: api.Case, Exprs: []api.Expr{p.expr(1)}}
+	p.need("OF")
+	for p.isInt() {
+		p.room(len(s.Labels), api.MaxParts)
+		s.Labels = append(s.Labels, several(p, api.MaxLabels, (*parser).int))
+		p.need(":")
+		s.Blocks = append(s.Blocks, p.list(deep+1))
+	}
+	s.Blocks = append(s.Blocks, p.otherwise(deep+1))
+	p.need("END_CASE")
+	return s
+}
+
+func (p *parser) otherwise(deep int) []api.Stmt {
+	if !p.take("ELSE") {
+		return nil
+	}
+	return p.list(deep)
+}
+
+func (p *parser) while(deep int) api.Stmt {
+	s := api.Stmt{Kind: api.While, Exprs: []api.Expr{p.expr(1)}}
+	p.need("DO")
+	s.Blocks = [][]api.Stmt{p.list(deep + 1)}
+	p.need("END_WHILE")
+	return s
+}
+
+func (p *parser) loop(deep int) api.Stmt {
+	s := api.Stmt{Kind: api.For, Name: p.name()}
+	p.need(":=")
+	from := p.expr(1)
+	p.need("TO")
+	s.Exprs = []api.Expr{from, p.expr(1)}
+	p.need("BY")
+	s.N = p.int()
+	p.need("DO")
+	s.Blocks = [][]api.Stmt{p.list(deep + 1)}
+	p.need("END_FOR")
+	return s
+}
+
+func (p *parser) answer() api.Stmt {
+	if p.is(";") {
+		return api.Stmt{Kind: api.Return}
+	}
+	return api.Stmt{Kind: api.Return, Exprs: []api.Expr{p.expr(1)}}
+}
+
+func (p *parser) step() api.Stmt {
+	s := api.Stmt{Kind: api.Step, Name: p.name()}
+	p.need("(")
+	in := p.expr(1)
+	p.need(",")
+	s.Exprs = []api.Expr{in, p.expr(1)}
+	p.need(")")
+	return s
+}
