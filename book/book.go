@@ -6,6 +6,9 @@ import "governor/api"
 // A unit of more declarations than these has its names in a map.
 const short = 32
 
+// So many chains are kept at most: all chains of many classes would take too much room.
+const mostChains = 64
+
 // What is kept of a question: answers are numbers, 0 of one that was not asked.
 const (
 	yes = 1
@@ -18,6 +21,7 @@ type Book struct {
 	first   map[string]int
 	kin     map[pair]int
 	methods map[member]found
+	chains  map[int][]int
 }
 
 type pair struct{ name, what string }
@@ -35,7 +39,7 @@ type found struct {
 
 // Of opens a book of a unit.
 func Of(u api.Unit) *Book {
-	b := &Book{Unit: u, kin: map[pair]int{}, methods: map[member]found{}}
+	b := &Book{Unit: u, kin: map[pair]int{}, methods: map[member]found{}, chains: map[int][]int{}}
 	if len(u.Decls) > short {
 		b.first = map[string]int{}
 		for d := len(u.Decls) - 1; d >= 0; d-- {
@@ -75,8 +79,20 @@ func (b *Book) Typed(name string) int {
 	return -1
 }
 
-// Chain is a class, its base, and so on, as long as there is one that was not met.
+// Chain is a class, its base, and so on, as long as there is one that was not met. It is not to be changed.
 func (b *Book) Chain(d int) []int {
+	chain, kept := b.chains[d]
+	if !kept {
+		if len(b.chains) >= mostChains {
+			clear(b.chains)
+		}
+		chain = b.walk(d)
+		b.chains[d] = chain
+	}
+	return chain
+}
+
+func (b *Book) walk(d int) []int {
 	var chain []int
 	met := map[int]int{}
 	for b.Has(d, api.Class) && met[d] == 0 {
