@@ -22,6 +22,8 @@ type Book struct {
 	kin     map[pair]int
 	methods map[member]found
 	chains  map[int][]int
+	stamps  []int
+	turn    int
 }
 
 type pair struct{ name, what string }
@@ -94,24 +96,49 @@ func (b *Book) Chain(d int) []int {
 
 func (b *Book) walk(d int) []int {
 	var chain []int
-	met := map[int]int{}
-	for b.Has(d, api.Class) && met[d] == 0 {
-		met[d] = yes
+	first := b.begin()
+	for b.Has(d, api.Class) && first(d) {
 		chain = append(chain, d)
 		d = b.Find(b.Unit.Decls[d].Base)
 	}
 	return chain
 }
 
+// begin tells of each declaration whether it is asked about for the first time from now on.
+func (b *Book) begin() func(d int) bool {
+	if b.stamps == nil {
+		b.stamps = make([]int, len(b.Unit.Decls))
+	}
+	b.turn++
+	turn := b.turn
+	return func(d int) bool {
+		met := b.stamps[d] == turn
+		b.stamps[d] = turn
+		return !met
+	}
+}
+
+// Next is the base of a class; -1, if it has none.
+func (b *Book) Next(d int) int {
+	if !b.Has(d, api.Class) {
+		return -1
+	}
+	next := b.Find(b.Unit.Decls[d].Base)
+	if next == d || !b.Has(next, api.Class) {
+		return -1
+	}
+	return next
+}
+
 // Faces are the interfaces of a class and of those it extends, each once.
 func (b *Book) Faces(d int) []int {
 	var faces []int
-	met := map[int]int{}
-	for _, c := range b.Chain(d) {
+	chain := b.Chain(d)
+	first := b.begin()
+	for _, c := range chain {
 		for _, name := range b.Unit.Decls[c].Faces {
 			f := b.Find(name)
-			if b.Has(f, api.Interface) && met[f] == 0 {
-				met[f] = yes
+			if b.Has(f, api.Interface) && first(f) {
 				faces = append(faces, f)
 			}
 		}
@@ -136,13 +163,23 @@ func (b *Book) comes(d int, name string, what string) bool {
 		return d >= 0
 	}
 	of := b.Find(what)
-	for _, c := range b.Chain(d) {
-		if c == of {
+	if !b.Has(of, api.Class) && !b.Has(of, api.Interface) {
+		return false
+	}
+	first := b.begin()
+	for b.Has(d, api.Class) && first(d) {
+		if d == of || b.Has(of, api.Interface) && b.implements(d, of) {
 			return true
 		}
+		d = b.Find(b.Unit.Decls[d].Base)
 	}
-	for _, f := range b.Faces(d) {
-		if f == of {
+	return false
+}
+
+// implements tells whether a class names an interface itself.
+func (b *Book) implements(d int, face int) bool {
+	for _, name := range b.Unit.Decls[d].Faces {
+		if b.Find(name) == face {
 			return true
 		}
 	}
@@ -161,15 +198,24 @@ func (b *Book) Method(d int, name string) (api.Where, bool) {
 }
 
 func (b *Book) search(d int, name string) found {
-	of := b.Chain(d)
 	if b.Has(d, api.Interface) {
-		of = []int{d}
+		return b.own(d, name)
 	}
-	for _, c := range of {
-		for m := range b.Unit.Decls[c].Methods {
-			if b.Unit.Decls[c].Methods[m].Name == name {
-				return found{api.Where{Decl: c, Method: m}, true}
-			}
+	first := b.begin()
+	for b.Has(d, api.Class) && first(d) {
+		if f := b.own(d, name); f.ok {
+			return f
+		}
+		d = b.Find(b.Unit.Decls[d].Base)
+	}
+	return found{}
+}
+
+// own is a method that stands in a declaration itself.
+func (b *Book) own(d int, name string) found {
+	for m := range b.Unit.Decls[d].Methods {
+		if b.Unit.Decls[d].Methods[m].Name == name {
+			return found{api.Where{Decl: d, Method: m}, true}
 		}
 	}
 	return found{}
@@ -191,4 +237,75 @@ func (b *Book) Fields(d int) []api.Var {
 		fields = append(fields, b.Unit.Decls[chain[i]].Vars...)
 	}
 	return fields
+}
+
+// IsBody tells whether a place is a program's body.
+func (b *Book) IsBody(w api.Where) bool {
+	return w.Method == -1 && b.Has(w.Decl, api.Program)
+}
+
+// IsMethod tells whether a place is a method of a class.
+func (b *Book) IsMethod(w api.Where) bool {
+	return b.Has(w.Decl, api.Class) && w.Method >= 0 && w.Method < len(b.Unit.Decls[w.Decl].Methods)
+}
+
+// Visible are the variables that a place may name: of one name the first one is meant.
+func (b *Book) Visible(w api.Where) []api.Var {
+	if b.IsBody(w) {
+		return b.Fields(w.Decl)
+	}
+	if !b.IsMethod(w) {
+		return nil
+	}
+	m := b.At(w)
+	vars := append([]api.Var(nil), m.Params...)
+	vars = append(vars, m.Vars...)
+	return append(vars, b.Fields(w.Decl)...)
+}
+
+// Var is the variable that a place means by a name.
+func (b *Book) Var(w api.Where, name string) (api.Var, bool) {
+	var lists [][]api.Var
+	if b.IsMethod(w) {
+		lists = append(lists, b.At(w).Params, b.At(w).Vars)
+	}
+	if b.IsBody(w) {
+		lists = append(lists, b.Unit.Decls[w.Decl].Vars)
+	}
+	for _, list := range lists {
+		if i := indexOf(list, name); i >= 0 {
+			return list[i], true
+		}
+	}
+	if !b.IsMethod(w) {
+		return api.Var{}, false
+	}
+	chain := b.Chain(w.Decl)
+	for i := len(chain) - 1; i >= 0; i-- {
+		fields := b.Unit.Decls[chain[i]].Vars
+		if f := indexOf(fields, name); f >= 0 {
+			return fields[f], true
+		}
+	}
+	return api.Var{}, false
+}
+
+func indexOf(vars []api.Var, name string) int {
+	for i := range vars {
+		if vars[i].Name == name {
+			return i
+		}
+	}
+	return -1
+}
+
+// Body are the statements of a place.
+func (b *Book) Body(w api.Where) []api.Stmt {
+	if b.IsBody(w) {
+		return b.Unit.Decls[w.Decl].Body
+	}
+	if b.IsMethod(w) {
+		return b.At(w).Body
+	}
+	return nil
 }

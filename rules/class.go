@@ -83,12 +83,9 @@ func (a *asked) badAbstract(m *api.Method) bool {
 }
 
 func (a *asked) over() bool {
-	chain := a.Chain(a.at)
+	next := a.Next(a.at)
 	return anyMethod(a.d, func(m *api.Method) bool {
-		if len(chain) < 2 {
-			return m.Over
-		}
-		w, ok := a.Method(chain[1], m.Name)
+		w, ok := a.Method(next, m.Name)
 		if !ok || !m.Over {
 			return ok != m.Over
 		}

@@ -205,11 +205,11 @@ func (c *checker) class(e api.Expr) (int, int) {
 		if c.method == nil {
 			return -1, api.Call
 		}
-		chain := c.book.Chain(c.decl)
-		if len(chain) < 2 {
+		next := c.book.Next(c.decl)
+		if next < 0 {
 			return -1, api.Call
 		}
-		return chain[1], api.Fine
+		return next, api.Fine
 	}
 	return -1, api.Typing
 }
