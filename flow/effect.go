@@ -61,41 +61,51 @@ func (w *walk) isKind(o api.Op) bool {
 	return o.B < len(w.im.Faces)
 }
 
-// room is where an instruction finds slots: the letters of one text, then those of another.
-type room struct{ first, second string }
-
-func (w *walk) room(k int) room {
-	switch k {
-	case api.OpLoadG, api.OpStoreG, api.OpGetG, api.OpPutG:
-		return room{first: w.im.Globals}
-	case api.OpLoadF, api.OpStoreF, api.OpGetF, api.OpPutF:
-		if !w.isClass(w.code.Class) {
-			return room{}
-		}
-		return room{first: w.im.Classes[w.code.Class].Fields}
-	}
-	return room{w.code.Params, w.code.Locals}
+// room is where an instruction finds slots: their letters, and how many numbers stand in a row from each on.
+type room struct {
+	letters string
+	rows    []int
 }
 
-func (r room) letter(slot int) (string, bool) {
-	if slot < len(r.first) {
-		return r.first[slot : slot+1], true
+func furnish(letters string) *room {
+	r := &room{letters, make([]int, len(letters)+1)}
+	for i := len(letters) - 1; i >= 0; i-- {
+		if letters[i] == 'i' {
+			r.rows[i] = r.rows[i+1] + 1
+		}
 	}
-	slot -= len(r.first)
-	if slot < len(r.second) {
-		return r.second[slot : slot+1], true
+	return r
+}
+
+func (w *walk) room(k int) *room {
+	switch k {
+	case api.OpLoadG, api.OpStoreG, api.OpGetG, api.OpPutG:
+		if w.globals == nil {
+			w.globals = furnish(w.im.Globals)
+		}
+		return w.globals
+	case api.OpLoadF, api.OpStoreF, api.OpGetF, api.OpPutF:
+		if w.fields == nil && w.isClass(w.code.Class) {
+			w.fields = furnish(w.im.Classes[w.code.Class].Fields)
+		}
+		return w.fields
 	}
-	return "", false
+	if w.locals == nil {
+		w.locals = furnish(w.code.Params + w.code.Locals)
+	}
+	return w.locals
+}
+
+func (r *room) letter(slot int) (string, bool) {
+	if r == nil || slot >= len(r.letters) {
+		return "", false
+	}
+	return r.letters[slot : slot+1], true
 }
 
 // numbers tells whether so many slots are there, and hold numbers.
-func (r room) numbers(slot int, size int) bool {
-	for i := range size {
-		if letter, ok := r.letter(slot + i); !ok || letter != "i" {
-			return false
-		}
-	}
-	return true
+func (r *room) numbers(slot int, size int) bool {
+	return r != nil && slot < len(r.letters) && r.rows[slot] >= size
 }
 
 // call is the effect of an instruction that calls.
@@ -133,10 +143,14 @@ func (w *walk) callee(c int) (string, bool) {
 	return op.Sig(w.im.Codes[c].Params, w.im.Codes[c].Ret), true
 }
 
-// slot is the Sig of a class's slot.
+// slot is the Sig of a class's slot; the class is to have one for each of its Sigs.
 func (w *walk) slot(class int, slot int) (string, bool) {
-	if !w.isClass(class) || slot >= len(w.im.Classes[class].Sigs) {
+	if !w.isClass(class) {
 		return "", false
 	}
-	return w.im.Classes[class].Sigs[slot], true
+	c := &w.im.Classes[class]
+	if slot >= len(c.Sigs) || len(c.VTable) < len(c.Sigs) {
+		return "", false
+	}
+	return c.Sigs[slot], true
 }

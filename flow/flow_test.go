@@ -2,6 +2,7 @@ package flow
 
 import (
 	"math"
+	"strings"
 	"testing"
 
 	"governor/api"
@@ -112,6 +113,15 @@ func TestOperandsThatAreNone(t *testing.T) {
 			}
 		}
 	}
+	// A class is to have a slot for each of its Sigs.
+	im, c := world(api.Code{Class: 1, Ops: []api.Op{mk(api.OpThis, 1), ret}})
+	if _, ok := Check(im, c); !ok {
+		t.Error("P18.1: a slot")
+	}
+	im.Classes[1].VTable = im.Classes[1].VTable[:2]
+	if _, ok := Check(im, c); ok {
+		t.Error("P18.1: a class with a slot too few")
+	}
 	// What comes of A may call A's; what A is may not call B's.
 	if _, ok := check(0, false, null, mk(api.OpCall, 3), ret); ok {
 		t.Error("P18.1: a call of an heir's code")
@@ -192,5 +202,19 @@ func TestOddImages(t *testing.T) {
 	}
 	if got, ok := Check(api.Image{Codes: []api.Code{{Class: -1, Ops: append(ways, ret)}}}, 0); got != 1 || !ok {
 		t.Errorf("P18.1: many ways: %d, %v", got, ok)
+	}
+}
+
+func TestLargeImages(t *testing.T) {
+	// Each instruction asks for an array of all globals.
+	im := api.Image{Globals: strings.Repeat("i", api.MaxWords), Codes: []api.Code{{Class: -1}}}
+	for range 4999 {
+		im.Codes[0].Ops = append(im.Codes[0].Ops, mk(api.OpPush, 1), mk(api.OpGetG, 0, api.MaxWords))
+	}
+	im.Codes[0].Ops = append(im.Codes[0].Ops, mk(api.OpJump, 9998))
+	for range 100 {
+		if got, ok := Check(im, 0); got != 4999 || !ok {
+			t.Fatalf("P18.1: %d, %v", got, ok)
+		}
 	}
 }
