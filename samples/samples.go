@@ -143,10 +143,7 @@ func (m *maker) answer() string {
 	if !m.scope.answers || m.chance(6) {
 		return ""
 	}
-	if m.scope.truth {
-		return " RETURN " + m.truth(1) + " ;"
-	}
-	return " RETURN " + m.value(1) + " ;"
+	return m.leave()
 }
 
 // program makes a program, with inputs and outputs from a slot on.

@@ -62,8 +62,24 @@ func (m *maker) stmt() string {
 		if m.looped > 0 {
 			return "IF " + m.truth(1) + " THEN EXIT ; END_IF ;"
 		}
+		fallthrough
+	case 14:
+		if m.chance(3) {
+			return "IF " + m.truth(1) + " THEN" + m.leave() + " END_IF ;"
+		}
 	}
 	return m.one(s.targets...) + " := " + m.value(1) + " ;"
+}
+
+// leave makes a statement that ends the method, or the program.
+func (m *maker) leave() string {
+	if !m.scope.answers {
+		return " RETURN ;"
+	}
+	if m.scope.truth {
+		return " RETURN " + m.truth(1) + " ;"
+	}
+	return " RETURN " + m.value(1) + " ;"
 }
 
 func (m *maker) loop() string {
