@@ -1,10 +1,17 @@
 // Package book looks things up in a unit, and keeps what was found for the next time.
 package book
 
-import "governor/api"
+import (
+	"slices"
+
+	"governor/api"
+)
 
 // A unit of more declarations than these has its names in a map.
 const short = 32
+
+// None is the number of a declaration that is none.
+const None = -1
 
 // So many chains are kept at most: all chains of many classes would take too much room.
 const mostChains = 64
@@ -18,12 +25,22 @@ const (
 // Book is a unit that is asked more than once, and not changed meanwhile.
 type Book struct {
 	Unit    api.Unit
-	first   map[string]int
+	names   map[string]int
+	notes   []note
 	kin     map[pair]int
 	methods map[member]found
 	chains  map[int][]int
-	stamps  []int
 	turn    int
+}
+
+// note is what was found of a declaration: of a class its base, and its own interfaces; of one with many methods where
+// each name stands first. A walk stamps those that it met.
+type note struct {
+	related bool
+	base    int
+	faces   []int
+	methods map[string]int
+	stamp   int
 }
 
 type pair struct{ name, what string }
@@ -41,14 +58,14 @@ type found struct {
 
 // Of opens a book of a unit.
 func Of(u api.Unit) *Book {
-	b := &Book{Unit: u, kin: map[pair]int{}, methods: map[member]found{}, chains: map[int][]int{}}
-	if len(u.Decls) > short {
-		b.first = map[string]int{}
-		for d := len(u.Decls) - 1; d >= 0; d-- {
-			b.first[u.Decls[d].Name] = d
-		}
+	return &Book{Unit: u, kin: map[pair]int{}, methods: map[member]found{}, chains: map[int][]int{}}
+}
+
+func (b *Book) note(d int) *note {
+	if b.notes == nil {
+		b.notes = make([]note, len(b.Unit.Decls))
 	}
-	return b
+	return &b.notes[d]
 }
 
 // Has tells whether d is a declaration of a kind.
@@ -58,18 +75,29 @@ func (b *Book) Has(d int, kind int) bool {
 
 // Find is the first declaration of a name; -1, if there is none.
 func (b *Book) Find(name string) int {
-	if b.first != nil {
-		if d, ok := b.first[name]; ok {
-			return d
-		}
-		return -1
+	if len(b.Unit.Decls) > short {
+		return b.look(name)
 	}
 	for d := range b.Unit.Decls {
 		if b.Unit.Decls[d].Name == name {
 			return d
 		}
 	}
-	return -1
+	return None
+}
+
+// look finds a name of a long unit.
+func (b *Book) look(name string) int {
+	if b.names == nil {
+		b.names = map[string]int{}
+		for d := len(b.Unit.Decls) - 1; d >= 0; d-- {
+			b.names[b.Unit.Decls[d].Name] = d
+		}
+	}
+	if d, ok := b.names[name]; ok {
+		return d
+	}
+	return None
 }
 
 // Typed is the first declaration of a name, if that is a class or an interface; else -1.
@@ -99,35 +127,47 @@ func (b *Book) walk(d int) []int {
 	first := b.begin()
 	for b.Has(d, api.Class) && first(d) {
 		chain = append(chain, d)
-		d = b.Find(b.Unit.Decls[d].Base)
+		d = b.relate(d).base
 	}
 	return chain
 }
 
 // begin tells of each declaration whether it is asked about for the first time from now on.
 func (b *Book) begin() func(d int) bool {
-	if b.stamps == nil {
-		b.stamps = make([]int, len(b.Unit.Decls))
-	}
 	b.turn++
 	turn := b.turn
 	return func(d int) bool {
-		met := b.stamps[d] == turn
-		b.stamps[d] = turn
+		n := b.note(d)
+		met := n.stamp == turn
+		n.stamp = turn
 		return !met
 	}
 }
 
+// relate finds a class's base and its own interfaces.
+func (b *Book) relate(d int) *note {
+	n := b.note(d)
+	if n.related {
+		return n
+	}
+	n.related, n.base = true, b.Find(b.Unit.Decls[d].Base)
+	if !b.Has(n.base, api.Class) {
+		n.base = None
+	}
+	for _, name := range b.Unit.Decls[d].Faces {
+		if f := b.Find(name); b.Has(f, api.Interface) {
+			n.faces = append(n.faces, f)
+		}
+	}
+	return n
+}
+
 // Next is the base of a class; -1, if it has none.
 func (b *Book) Next(d int) int {
-	if !b.Has(d, api.Class) {
-		return -1
+	if !b.Has(d, api.Class) || b.relate(d).base == d {
+		return None
 	}
-	next := b.Find(b.Unit.Decls[d].Base)
-	if next == d || !b.Has(next, api.Class) {
-		return -1
-	}
-	return next
+	return b.relate(d).base
 }
 
 // Faces are the interfaces of a class and of those it extends, each once.
@@ -136,9 +176,8 @@ func (b *Book) Faces(d int) []int {
 	chain := b.Chain(d)
 	first := b.begin()
 	for _, c := range chain {
-		for _, name := range b.Unit.Decls[c].Faces {
-			f := b.Find(name)
-			if b.Has(f, api.Interface) && first(f) {
+		for _, f := range b.relate(c).faces {
+			if first(f) {
 				faces = append(faces, f)
 			}
 		}
@@ -168,20 +207,11 @@ func (b *Book) comes(d int, name string, what string) bool {
 	}
 	first := b.begin()
 	for b.Has(d, api.Class) && first(d) {
-		if d == of || b.Has(of, api.Interface) && b.implements(d, of) {
+		n := b.relate(d)
+		if d == of || slices.Contains(n.faces, of) {
 			return true
 		}
-		d = b.Find(b.Unit.Decls[d].Base)
-	}
-	return false
-}
-
-// implements tells whether a class names an interface itself.
-func (b *Book) implements(d int, face int) bool {
-	for _, name := range b.Unit.Decls[d].Faces {
-		if b.Find(name) == face {
-			return true
-		}
+		d = n.base
 	}
 	return false
 }
@@ -194,7 +224,10 @@ func (b *Book) Method(d int, name string) (api.Where, bool) {
 		f = b.search(d, name)
 		b.methods[key] = f
 	}
-	return f.where, f.ok
+	if !f.ok {
+		return api.Where{}, false
+	}
+	return f.where, true
 }
 
 func (b *Book) search(d int, name string) found {
@@ -206,19 +239,36 @@ func (b *Book) search(d int, name string) found {
 		if f := b.own(d, name); f.ok {
 			return f
 		}
-		d = b.Find(b.Unit.Decls[d].Base)
+		d = b.relate(d).base
 	}
 	return found{}
 }
 
 // own is a method that stands in a declaration itself.
 func (b *Book) own(d int, name string) found {
-	for m := range b.Unit.Decls[d].Methods {
-		if b.Unit.Decls[d].Methods[m].Name == name {
+	methods := b.Unit.Decls[d].Methods
+	if len(methods) > short {
+		m, ok := b.sorted(d)[name]
+		return found{api.Where{Decl: d, Method: m}, ok}
+	}
+	for m := range methods {
+		if methods[m].Name == name {
 			return found{api.Where{Decl: d, Method: m}, true}
 		}
 	}
 	return found{}
+}
+
+// sorted tells where each method of a declaration stands first.
+func (b *Book) sorted(d int) map[string]int {
+	n := b.note(d)
+	if n.methods == nil {
+		n.methods = map[string]int{}
+		for m := len(b.Unit.Decls[d].Methods) - 1; m >= 0; m-- {
+			n.methods[b.Unit.Decls[d].Methods[m].Name] = m
+		}
+	}
+	return n.methods
 }
 
 // At is the method of a place.

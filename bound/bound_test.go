@@ -96,3 +96,18 @@ func TestLargeImages(t *testing.T) {
 		t.Errorf("R1: %d, %d, %v", d, w, ok)
 	}
 }
+
+func TestManyCallsOfManyClasses(t *testing.T) {
+	var im api.Image
+	for i := range 10000 {
+		im.Classes = append(im.Classes, api.Desc{Base: i - 1, VTable: []int{i + 1}})
+	}
+	im.Codes = make([]api.Code, 10000)
+	im.Codes[0].Class = -1
+	for i := range 10000 {
+		im.Codes[0].Ops = append(im.Codes[0].Ops, callV(0, i))
+	}
+	if got := Calls(im, 0); len(got) != 9999 || got[0] != 1 || got[9998] != 9999 {
+		t.Errorf("R1: %d", len(got))
+	}
+}

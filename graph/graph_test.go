@@ -121,8 +121,20 @@ func TestOddUnits(t *testing.T) {
 		u.Decls = append(u.Decls, api.Decl{Kind: api.Class, Name: "C" + n, Base: "C" + next, Vars: []api.Var{{Name: "r" + n, Type: api.Type{Kind: api.Ref, Name: "C" + next}}},
 			Methods: []api.Method{{Name: "M" + n, Body: invoke(2, "", "M"+next)}}})
 	}
-	if got := Cycle(u); got != 0 {
+	Cycle(u)
+	Depth(u, api.Where{})
+	// Many methods, each of which calls the next one.
+	var methods []api.Method
+	for i := range 16000 {
+		methods = append(methods, api.Method{Name: "M" + strconv.Itoa(i), Body: invoke(1, "", "M"+strconv.Itoa((i+1)%16000))})
+	}
+	long := api.Unit{Decls: []api.Decl{{Kind: api.Class, Name: "A", Methods: methods}, {Kind: api.Class, Name: "B", Base: "A"}}}
+	if got := Cycle(long); got != 0 {
 		t.Errorf("R1: %d", got)
+	}
+	long.Decls[0].Methods[15999].Body = nil
+	if Cycle(long) != -1 || Depth(long, api.Where{}) != 16000 {
+		t.Error("R1: many methods")
 	}
 	for _, u := range []api.Unit{
 		{Decls: []api.Decl{{Kind: api.Class, Methods: []api.Method{{Body: invoke(7, "x", "y")}, {Body: invoke(0, "x", "")}, {Body: invoke(1, "", "q")}}}}},

@@ -66,10 +66,12 @@ func (a *asked) abstract() bool {
 	if a.d.Abstract {
 		return false
 	}
+	// Of one name the method of the first class is meant.
+	met := map[string]int{}
 	for _, c := range a.Chain(a.at) {
 		if anyMethod(&a.Unit.Decls[c], func(m *api.Method) bool {
-			w, ok := a.Method(a.at, m.Name)
-			return ok && a.At(w).Abstract
+			met[m.Name]++
+			return met[m.Name] == 1 && m.Abstract
 		}) {
 			return true
 		}
