@@ -24,7 +24,7 @@ func TestCalls(t *testing.T) {
 		{Base: 0, VTable: []int{1, 2, 99}},
 		{Base: 1, VTable: []int{1, 3, 4}, Tables: []api.Table{{Face: 1, Slots: []int{6}}, {Face: 2, Slots: []int{-1, 3}}, {Face: 2, Slots: []int{2}}}},
 		{Base: -1, VTable: []int{5}},
-		{Base: 5, VTable: []int{7}}, {Base: 4, VTable: []int{6}}, {Base: 77, VTable: []int{3}},
+		{Base: 5, VTable: []int{7}}, {Base: 4, VTable: []int{6}}, {Base: 7, VTable: []int{3}},
 	}
 	for i, c := range []struct {
 		class int
@@ -32,6 +32,7 @@ func TestCalls(t *testing.T) {
 		want  []int
 	}{
 		{0, nil, nil}, {0, []api.Op{call(3), call(1), call(3), call(-1), call(99), call(8)}, []int{1, 3, 8}},
+		{0, []api.Op{{K: api.OpPush, A: 1}, call(3), {K: api.OpPop}, call(2)}, []int{2, 3}},
 		{0, []api.Op{this(0)}, []int{0, 1}}, {1, []api.Op{this(0)}, []int{1}}, {0, []api.Op{this(1)}, []int{2, 3}}, {1, []api.Op{this(2)}, []int{4}}, {2, []api.Op{this(1), this(9), this(-1)}, []int{3}}, {-1, []api.Op{this(0)}, nil}, {77, []api.Op{this(0)}, nil},
 		{-1, []api.Op{callV(0, 0)}, []int{0, 1}}, {-1, []api.Op{callV(0, 3), callV(1, 2)}, []int{3, 5}}, {-1, []api.Op{callV(0, -1), callV(0, 7), callV(0, 77), callV(-1, 0)}, nil}, {-1, []api.Op{callV(0, 4)}, []int{6, 7}}, {-1, []api.Op{callV(0, 5)}, []int{6, 7}},
 		{-1, []api.Op{callI(2, 0)}, []int{2, 5}}, {-1, []api.Op{callI(2, 1)}, []int{3, 4}}, {-1, []api.Op{callI(1, 0)}, []int{6}}, {-1, []api.Op{callI(0, 0), callI(-1, 0), callI(2, 9), callI(2, -1)}, nil},

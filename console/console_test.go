@@ -44,7 +44,7 @@ func TestCommands(t *testing.T) {
 		// A command tells of what was gathered ahead of it.
 		{"!check\n" + src(adder[:20]) + "!check\n" + src(adder[20:]) + "!check\n!plant\nscan 1 41\n!plant\nscan 0\n!plant\n", "yes\n3:20\nyes\n-\n0,42,0,0,0,0,0,0/0\n0,42,0,0,0,0,0,0/0 0,42,0,0,0,0,0,0/0\n"},
 		// Lines that script does not read: the first of them is told, by its number among those that were gathered.
-		{"!check\nx\n" + commands, "yes\n" + strings.Repeat("error 1\n", 6)}, {"src -\n!check\nscan 1\n!check\nscan\nsrc\n!check\n!nix\nscan 1\n!run\n", "yes\nyes\nerror 3\nerror 3\nerror 3\n"}, {"\n!check\n", "error 1\n"}, {"src -\n\n!check", "error 2\n"}, {" !check\n!check", "error 1\n"}, {"x", ""}, {"scan 1\nscan 2", ""},
+		{"!check\nx\n" + commands, "yes\n" + strings.Repeat("error 1\n", 6)}, {"src -\n!check\nscan 1\n!check\nscan\nsrc\n!check\n!nix\nscan 1\n!run\n", "yes\nyes\nerror 3\nerror 3\nerror 3\n"}, {"\n!check\n", "error 1\n"}, {"x\ny\n!check\nsrc -\nz\n!check\n", "error 1\nerror 1\n"}, {"src -\n\n!check", "error 2\n"}, {" !check\n!check", "error 1\n"}, {"x", ""}, {"scan 1\nscan 2", ""},
 	} {
 		if got := play(t, c.text); got != c.want {
 			t.Errorf("P26.1: %q: %q, want %q", c.text, got, c.want)

@@ -95,7 +95,7 @@ func TestOperandsThatAreNone(t *testing.T) {
 	i, r := []api.Op{push, push, push}, []api.Op{null, null, null}
 	for _, o := range []api.Op{mk(api.OpQ, 2), mk(api.OpCV, 2), mk(api.OpStep, 2), mk(api.OpInst, 0), mk(api.OpInst, 3), mk(api.OpLoad, 5), mk(api.OpLoadG, 6), mk(api.OpLoadF, 4), mk(api.OpStore, 5), mk(api.OpStoreG, 6), mk(api.OpStoreF, 4),
 		mk(api.OpGet, 0, 1), mk(api.OpGet, 1, 4), mk(api.OpGetG, 2, 2), mk(api.OpGetG, 5, 2), mk(api.OpGetF, 0, 2), mk(api.OpGetF, 3, 2), mk(api.OpPut, 4, 1), mk(api.OpPutG, 3, 1), mk(api.OpPutF, 1, 1),
-		mk(api.OpCall, 2), mk(api.OpCall, 4), mk(api.OpCall, 5), mk(api.OpCall, 6), mk(api.OpCall, 99), mk(api.OpThis, 2), mk(api.OpThis, 3), mk(api.OpCallV, 2, 1), mk(api.OpCallV, 2, 0), mk(api.OpCallV, 0, 2), mk(api.OpCallV, 0, 3), mk(api.OpCallI, 0, 2), mk(api.OpCallI, 2, 0), mk(api.OpCallI, 1, 0), mk(api.OpCallI, 1, 1),
+		mk(api.OpCall, 2), mk(api.OpCall, 4), mk(api.OpCall, 5), mk(api.OpCall, 6), mk(api.OpCall, 8), mk(api.OpCall, 99), mk(api.OpGet, 5, 1), mk(api.OpGetG, 6, 1), mk(api.OpGetF, 4, 1), mk(api.OpThis, 2), mk(api.OpThis, 3), mk(api.OpCallV, 2, 1), mk(api.OpCallV, 2, 0), mk(api.OpCallV, 0, 2), mk(api.OpCallV, 0, 3), mk(api.OpCallI, 0, 2), mk(api.OpCallI, 2, 0), mk(api.OpCallI, 1, 0), mk(api.OpCallI, 1, 1),
 		mk(api.OpCast, 0, 3), mk(api.OpCast, 1, 2), mk(api.OpTry, 0, 3), mk(api.OpTry, 1, 2), mk(api.OpTry, 2, 0),
 		{K: 0}, {K: 36}, {K: -1}, mk(api.OpPush, 32768), mk(api.OpNull, 1), mk(api.OpTick, 0), mk(api.OpBin, 15), mk(api.OpLoad, -1), mk(api.OpLoad, 0, 1), mk(api.OpGet, 1, 0)} {
 		for _, before := range [][]api.Op{i, r, nil} {

@@ -246,6 +246,14 @@ func TestShapes(t *testing.T) {
 	}
 }
 
+func TestFirstValues(t *testing.T) {
+	w := open(t, read(t, "CLASS C ; METHOD M ( ) : INT ; VAR b : BOOL := 1 ; VAR n : INT := 1 ; VAR z : INT ; VAR g : INT ( - 4 .. 9 ) := - 3 ; IF b THEN n := n + 1 ; END_IF ; z := z + g ; RETURN ( n * 10 ) + z ; END_METHOD END_CLASS PROGRAM P ; VAR c : C ; VAR x : INT ; x := c . M ( ) ; x := x + c . M ( ) ; END_PROGRAM"))
+	w.run(t, 1, nil, 0, 4000)
+	if n, _ := w.m.Get("P", "x", 0); n != 34 {
+		t.Errorf("P17.3: %d", n)
+	}
+}
+
 func TestErrors(t *testing.T) {
 	for _, src := range []string{"PROGRAM P ; x := 1 ; END_PROGRAM", "TASK T ( INTERVAL 1 , PRIORITY 0 ) : P ;", "CLASS C ; METHOD M ( ) ; THIS . M ( ) ; END_METHOD END_CLASS"} {
 		im, err := gen.Image(read(t, src))

@@ -111,6 +111,20 @@ func TestRings(t *testing.T) {
 	}
 }
 
+func TestAllDeclarations(t *testing.T) {
+	src := ""
+	for i := range api.MaxDecls {
+		src += "CLASS C" + strconv.Itoa(i) + " ; METHOD M ( ) ; THIS . N ( ) ; END_METHOD METHOD N ( ) ; END_METHOD END_CLASS "
+	}
+	u := read(t, src)
+	if got := Calls(u, api.Where{Decl: 11}); !slices.Equal(got, at(11, 1)) || Depth(u, api.Where{Decl: 11}) != 2 {
+		t.Errorf("P9.1: %v", got)
+	}
+	if again := read(t, src[:len(src)-len("END_METHOD END_CLASS ")]+"THIS . M ( ) ; END_METHOD END_CLASS"); Cycle(again) != 11 {
+		t.Errorf("P9.1: %d", Cycle(again))
+	}
+}
+
 func TestOddUnits(t *testing.T) {
 	var u api.Unit
 	invoke := func(n int, name string, what string) []api.Stmt {

@@ -110,6 +110,16 @@ func TestAbstractFaces(t *testing.T) {
 	}
 }
 
+func TestAllDeclarations(t *testing.T) {
+	src := ""
+	for i := range api.MaxDecls {
+		src += "CLASS C" + strconv.Itoa(i) + " ; METHOD M ( ) ; END_METHOD END_CLASS "
+	}
+	if got := Of(read(t, src)); len(got.Classes) != api.MaxDecls || len(got.Codes) != api.MaxDecls {
+		t.Errorf("P16.2: %d classes", len(got.Classes))
+	}
+}
+
 func TestOddUnits(t *testing.T) {
 	var long api.Unit
 	for i := range 30000 {

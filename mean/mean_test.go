@@ -258,3 +258,35 @@ func TestDeepTrees(t *testing.T) {
 		t.Errorf("R1: %d, %d", fault, cost)
 	}
 }
+
+// TestFaultsEnd holds that behind a fault nothing more is done, wherever it comes from.
+func TestFaultsEnd(t *testing.T) {
+	const zero = "( 1 / y )"
+	for _, body := range []string{"x := - " + zero + " ;", "x := 1 + " + zero + " ;", "x := " + zero + " + 1 ;", "x := l [ " + zero + " ] ;", "x := l [ 9 ] ;", "x := l [ 9 ] + 1 ;", "x := 1 + l [ 9 ] ;", "l [ 0 ] := " + zero + " ;", "l [ " + zero + " ] := 9 ;", "l [ 9 ] := 9 ;",
+		"x := o . Echo ( " + zero + " ) ;", "x := 1 + o . Fail ( 0 ) ;", "x := o . Echo ( o . Fail ( 0 ) ) ;", "x := o . Fail ( 0 ) + 1 ;", "o . Fail ( 0 ) ;", "r . Fail ( 0 ) ;", "x := r . Echo ( 1 ) ;", "x := 1 + r . Echo ( 1 ) ;", "r := AS C ( REF ( d ) ) ;", "b := NOT ( " + zero + " = 1 ) ;",
+		"b := ( AS C ( REF ( d ) ) ) = NULL ;", "IF " + zero + " = 0 THEN x := 1 ; ELSE x := 2 ; END_IF ;", "IF " + zero + " <> 0 THEN ELSE x := 2 ; END_IF ;", "CASE " + zero + " OF 0 : x := 1 ; ELSE x := 2 ; END_CASE ;", "WHILE " + zero + " = 0 DO x := 1 ; END_WHILE ;", "FOR x := " + zero + " TO 3 BY 1 DO END_FOR ;", "FOR x := 1 TO " + zero + " BY 1 DO END_FOR ;",
+		"IF TRUE THEN l [ 9 ] := 1 ; END_IF ;", "WHILE TRUE DO l [ 9 ] := 1 ; END_WHILE ;", "FOR y := 0 TO 1 BY 1 DO l [ 9 ] := 1 ; END_FOR ;", "CASE 1 OF 1 : l [ 9 ] := 1 ; END_CASE ;", "RETURN ; l [ 9 ] := 1 ;", "STEP t ( " + zero + " = 0 , 1 ) ;", "STEP t ( TRUE , " + zero + " ) ;", "r ?= AS C ( REF ( d ) ) ;"} {
+		m := open(t, `CLASS C ; METHOD Echo ( a : INT ) : INT ; RETURN a ; END_METHOD METHOD Fail ( a : INT ) : INT ; VAR v : INT ; v := 1 / a ; RETURN 5 ; END_METHOD END_CLASS CLASS D ; END_CLASS
+PROGRAM Q ; VAR o : C ; VAR d : D ; VAR x : INT := 7 ; VAR y : INT ; VAR l : ARRAY [ 2 ] OF INT ; VAR r : REF_TO C ; VAR t : CTU ; VAR b : BOOL := 1 ; `+body+" x := 3 ; END_PROGRAM")
+		fault, _ := m.Run("Q", nil, 0, 4000)
+		x, _ := m.Get("Q", "x", 0)
+		l, _ := m.Get("Q", "l", 0)
+		b, _ := m.Get("Q", "b", 0)
+		block, _ := m.Block("Q", "t")
+		if (fault == api.Running) != (body[:6] == "RETURN") || x != 7 || l != 0 || b != 1 || block != (api.Block{Kind: api.CTU}) {
+			t.Errorf("P11.2: %s: fault %d, %d, %d, %d, %v", body, fault, x, l, b, block)
+		}
+	}
+}
+
+func TestMore(t *testing.T) {
+	for _, c := range []sample{{"y := TRUE ;", "0 3 y1"}, {"y := FALSE ;", "0 3"}, {"a [ 0 ] := 6 ; x := a [ 0 ] ;", "0 7 x6"}, {"y := DONE ( t ) ; x := 1 ;", "0 5 x1"}, {"STEP t ( TRUE , 0 ) ; y := NOT DONE ( t ) ;", "0 7"}} {
+		m := open(t, "PROGRAM P ; VAR x : INT ; VAR y : BOOL ; VAR a : ARRAY [ 3 ] OF INT ; VAR t : TON ; "+c.body+" END_PROGRAM")
+		if got := told(t, m, 4000, "x", "y"); got != c.want {
+			t.Errorf("P11.3: %s: %s, want %s", c.body, got, c.want)
+		}
+		if b, ok := m.Block("P", "t"); !ok || b.Kind != api.TON {
+			t.Errorf("P11.1: Block: %v", b)
+		}
+	}
+}

@@ -55,7 +55,7 @@ func TestPrint(t *testing.T) {
 		code  int
 	}{
 		{"", []api.Scan{{Ticks: 1<<31 + 1}}, api.Arg}, {"", []api.Scan{{Ticks: -1<<31 - 1}}, api.Arg}, {"", []api.Scan{{}, {In: []int{1, math.MinInt}}}, api.Arg}, {"", []api.Scan{{In: make([]int, 17)}}, api.Arg}, {"", []api.Scan{{In: []int{math.MaxInt}}}, api.Arg},
-		{strings.Repeat("x", 32766), nil, api.Full}, {strings.Repeat("x", 100000), []api.Scan{{In: make([]int, 17)}}, api.Arg}, {strings.Repeat("x", 32765), make([]api.Scan, 1), api.Full}, {"", many, api.Full}, {"", many[:9361], api.Fine}, {strings.Repeat("x", 32762), make([]api.Scan, 1), api.Fine}, {strings.Repeat("x", 32763), make([]api.Scan, 1), api.Full},
+		{strings.Repeat("x", 32766), nil, api.Full}, {strings.Repeat("x", 100000), nil, api.Full}, {strings.Repeat("x", 100000), []api.Scan{{In: make([]int, 17)}}, api.Arg}, {strings.Repeat("x", 32765), make([]api.Scan, 1), api.Full}, {"", many, api.Full}, {"", many[:9361], api.Fine}, {strings.Repeat("x", 32762), make([]api.Scan, 1), api.Fine}, {strings.Repeat("x", 32763), make([]api.Scan, 1), api.Full},
 	} {
 		got, err := Print(c.src, c.scans...)
 		code, at, _ := diag.Find(err)
@@ -92,6 +92,10 @@ func TestParse(t *testing.T) {
 	}
 	if src, _, err := Parse(full); err != nil || len(src) != 32765 {
 		t.Error("P25.1: MaxScript")
+	}
+	exact := "src " + strings.Repeat("00", 32762) + "\nscan 0\n"
+	if src, scans, err := Parse(exact); len(exact) != api.MaxScript || err != nil || len(src) != 32762 || len(scans) != 1 {
+		t.Errorf("P25.1: just MaxScript: %v", err)
 	}
 	if _, _, err := Parse(full + "xx"); !isFull(err) {
 		t.Errorf("P25.1: more than MaxScript: %v", err)

@@ -153,6 +153,10 @@ func told(t *testing.T, promise string, marked string, code int, read func(strin
 	if at < 0 && !ok {
 		return
 	}
+	if at < 0 {
+		t.Errorf("%s: %.150s: %d at %d", promise, marked, got, place)
+		return
+	}
 	if got != code || place != at {
 		t.Errorf("%s: %.150s: %d at %d, want %d at %d", promise, marked, got, place, code, at)
 	}
@@ -308,4 +312,29 @@ func TestSizes(t *testing.T) {
 	// What is wrong first is told, whatever else is wrong behind it.
 	told(t, "P4.2", program(r("EXIT ; ", 24)+"^EXIT EXIT"), api.Size, unitError)
 	told(t, "P4.2", program(r("EXIT ; ", 23)+"EXIT ^EXIT ; EXIT ; EXIT ;"), api.Syntax, unitError)
+}
+
+// TestEachPlace holds of each place of an expression, and of a list, how deeply it may be nested.
+func TestEachPlace(t *testing.T) {
+	for _, place := range []string{"x := % ;", "x [ % ] := 1 ;", "x [ 1 ] := % ;", "r ?= % ;", "RETURN % ;", "IF % THEN END_IF ;", "IF a THEN ELSIF % THEN END_IF ;", "CASE % OF END_CASE ;", "WHILE % DO END_WHILE ;",
+		"FOR i := % TO 1 BY 1 DO END_FOR ;", "FOR i := 1 TO % BY 1 DO END_FOR ;", "STEP t ( % , 1 ) ;", "STEP t ( a , % ) ;", "IF a THEN IF a THEN x := % ; END_IF ; END_IF ;"} {
+		told(t, "P4.2", program(strings.Replace(place, "%", nested(5, "a"), 1)), api.Fine, unitError)
+		told(t, "P4.2", program(strings.Replace(place, "%", nested(6, "^a"), 1)), api.Deep, unitError)
+	}
+	for _, place := range []string{"o . M ( % ) ;", "THIS . M ( % ) ;", "SUPER . M ( 1 , % ) ;", "x := - ( % ) ;", "x := 1 + a [ % ] ;", "x := AS C ( % ) ;", "x := o . M ( % ) ;", "x := NOT SUPER . M ( 1 , 2 , % ) ;"} {
+		told(t, "P4.2", program(strings.Replace(place, "%", nested(4, "a"), 1)), api.Fine, unitError)
+		told(t, "P4.2", program(strings.Replace(place, "%", nested(5, "^a"), 1)), api.Deep, unitError)
+	}
+	for _, place := range []string{"IF a THEN % END_IF ;", "IF a THEN ELSIF a THEN % END_IF ;", "IF a THEN ELSE % END_IF ;", "CASE a OF 1 : % END_CASE ;", "CASE a OF 1 : 2 : % ELSE END_CASE ;", "CASE a OF ELSE % END_CASE ;", "WHILE a DO % END_WHILE ;", "FOR i := 1 TO 2 BY 1 DO % END_FOR ;"} {
+		open, shut, _ := strings.Cut(place, "%")
+		at := func(n int, inner string) string {
+			return program(strings.Repeat("WHILE a DO ", n) + open + inner + shut + strings.Repeat(" END_WHILE ;", n))
+		}
+		told(t, "P4.2", at(4, "x := 1 ;"), api.Fine, unitError)
+		if !strings.HasPrefix(place, "IF a THEN E") && !strings.HasPrefix(place, "CASE a OF 1 : 2") {
+			told(t, "P4.2", at(5, "^x := 1 ;"), api.Deep, unitError)
+		}
+		method := strings.Replace(at(4, "x := 1 ;"), "PROGRAM P ;", "CLASS C ; METHOD M ( ) ;", 1)
+		told(t, "P4.2", strings.Replace(method, "END_PROGRAM", "END_METHOD END_CLASS", 1), api.Fine, unitError)
+	}
 }

@@ -86,6 +86,27 @@ func TestAccepted(t *testing.T) {
 	)
 }
 
+// TestLimits holds an image of which nearly all is at its limit.
+func TestLimits(t *testing.T) {
+	base := api.Desc{Base: -1, Fields: strings.Repeat("i", api.MaxWords), Init: make([]int, api.MaxWords), VTable: slices.Repeat([]int{-1}, 100), Sigs: slices.Repeat([]string{"iri>"}, 100)}
+	for f := range 100 {
+		base.Tables = append(base.Tables, api.Table{Face: f})
+	}
+	heir := base
+	heir.Base, heir.VTable = 0, slices.Clone(base.VTable)
+	heir.VTable[99] = 1
+	ret := []api.Op{{K: api.OpRet}}
+	im := api.Image{Faces: make([][]string, 100), Classes: []api.Desc{base, heir}, Codes: []api.Code{{Class: -1, Ops: ret}, {Class: 1, Params: "iri", Ops: ret}},
+		Globals: "i", Init: []int{0}, Ins: []api.Link{{}}, Outs: []api.Link{{}}, Jobs: []api.Job{{Every: 1}}, D: 1}
+	if why := verify.Why(im); why != "" {
+		t.Errorf("P20.1: at the limits: %s", why)
+	}
+	im.Classes[0].VTable[99] = 1
+	if why := verify.Why(im); why != "tables" {
+		t.Errorf("P20.1: an heir's code: %s", why)
+	}
+}
+
 func TestSizes(t *testing.T) {
 	well := []change{
 		{"Faces", func(im *api.Image) { im.Faces = make([][]string, 101) }}, {"Classes", func(im *api.Image) { im.Classes = make([]api.Desc, 101) }}, {"Codes", func(im *api.Image) { im.Codes = make([]api.Code, 101) }}, {"Insts", func(im *api.Image) { im.Insts = make([]int, 101) }}, {"Blocks", func(im *api.Image) { im.Blocks = make([]int, 101) }},

@@ -260,6 +260,25 @@ func TestCalls(t *testing.T) {
 	}
 }
 
+func TestFirstCode(t *testing.T) {
+	im := api.Image{Classes: []api.Desc{{Base: -1, Fields: "i", Init: []int{4}}}, Codes: []api.Code{{Class: -1, Ops: []api.Op{push(0), push(6), mk(api.OpPutG, 0, 2), push(0), mk(api.OpGetG, 0, 2), mk(api.OpStoreG, 1), mk(api.OpRet)}}},
+		Insts: []int{0, 0}, Globals: "ii", Init: []int{0, 0}}
+	im.Codes[0].Stack, _ = flow.Check(im, 0)
+	im.D, im.W, _ = bound.Of(im)
+	v := open(t, im)
+	if fault, used := v.Run(0, nil, 0, 9); fault != api.Running || used != 1 {
+		t.Errorf("P21.2: %d, %d", fault, used)
+	}
+	for i := range 2 {
+		if n, ok := v.Global(i); n != 6 || !ok {
+			t.Errorf("P21.3: place 0: %d", n)
+		}
+		if n, ok := v.Field(i+1, 0); n != 4 || !ok {
+			t.Errorf("P21.1: Field of %d: %d, %v", i+1, n, ok)
+		}
+	}
+}
+
 func TestNew(t *testing.T) {
 	im := world("", push(9), mk(api.OpStoreG, 0))
 	v := open(t, im)
