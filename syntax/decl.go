@@ -5,10 +5,13 @@ import "governor/api"
 func (p *parser) unit() (api.Unit, []int) {
 	var u api.Unit
 	var places []int
-	for !p.ended() {
+	for p.beginsDecl() {
 		p.room(len(u.Decls), api.MaxDecls)
 		places = append(places, p.now().At)
 		u.Decls = append(u.Decls, p.decl())
+	}
+	if !p.ended() {
+		p.fail(api.Syntax)
 	}
 	return u, places
 }
@@ -24,7 +27,6 @@ func (p *parser) decl() api.Decl {
 	case p.take("TASK"):
 		return p.task()
 	}
-	p.fail(api.Syntax)
 	return api.Decl{}
 }
 

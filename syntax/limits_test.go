@@ -1,0 +1,81 @@
+package syntax
+
+import (
+	"slices"
+	"strings"
+	"testing"
+
+	"governor/api"
+	"governor/diag"
+	"governor/lex"
+)
+
+const (
+	keys = "INTERFACE END_INTERFACE CLASS END_CLASS PROGRAM END_PROGRAM METHOD END_METHOD TASK INTERVAL PRIORITY EXTENDS IMPLEMENTS ABSTRACT FINAL OVERRIDE" +
+		" VAR AT IN OUT INT BOOL ARRAY OF REF_TO REF TON TOF TP CTU CTD R_TRIG F_TRIG TRUE FALSE NULL THIS SUPER AS NOT AND OR XOR MOD" +
+		" IF THEN ELSIF ELSE END_IF CASE END_CASE WHILE DO END_WHILE FOR TO BY END_FOR RETURN EXIT STEP DONE COUNT"
+	signs      = ":= ?= .. <> <= >= + - * / = < > ( ) [ ] , ; : ."
+	everyToken = keys + " " + signs + " x 5"
+	declFirst  = "INTERFACE CLASS PROGRAM TASK"
+)
+
+// within is a source that is at a limit, and one that is short of it. What goes on behind both is told of
+// alike, but for the tokens of first: behind the full one these are told of with the code.
+type within struct {
+	short, full, first string
+	code               int
+}
+
+// many is a limit of how many there may be.
+func many(head string, one string, most int, first string) within {
+	return within{head + strings.Repeat(one, most-1), head + strings.Repeat(one, most), first, api.Size}
+}
+
+// atLast is what is told of a source at its last token, which follows a blank; Fine, if nothing is told there.
+func atLast(src string, read func(string) error) int {
+	code, at, _ := diag.Find(read(src))
+	if at != strings.LastIndex(src, " ")+1 {
+		return api.Fine
+	}
+	return code
+}
+
+// eachToken holds what is told of each token behind a full source.
+func eachToken(t *testing.T, l within, read func(string) error) {
+	t.Helper()
+	first := strings.Fields(l.first)
+	for _, token := range strings.Fields(everyToken) {
+		begins := slices.Contains(first, token)
+		less, got := atLast(l.short+token, read), atLast(l.full+token, read)
+		if less != api.Fine && (less != api.Syntax || begins) {
+			t.Errorf("P4.2: %q, short of a limit: %d", l.short+token, less)
+		}
+		want := less
+		if begins {
+			want = l.code
+		}
+		if got != want {
+			t.Errorf("P4.2: %q: %d at its last token, want %d", l.full+token, got, want)
+		}
+	}
+	if code, at, _ := diag.Find(read(l.full)); code != api.Fine && (code != api.Syntax || at != len(l.full)) {
+		t.Errorf("P4.2: %q: %d at %d", l.full, code, at)
+	}
+}
+
+func TestEveryToken(t *testing.T) {
+	for _, token := range strings.Fields(keys) {
+		if !lex.IsKey(token) {
+			t.Errorf("%s is no word of the language", token)
+		}
+	}
+	if tokens, err := lex.All(everyToken); err != nil || len(tokens) != len(strings.Fields(everyToken)) {
+		t.Error(tokens, err)
+	}
+}
+
+func TestDeclsAtLimit(t *testing.T) {
+	for _, one := range []string{"PROGRAM P ; END_PROGRAM ", "INTERFACE I ; END_INTERFACE ", "CLASS C ; END_CLASS ", "TASK T ( INTERVAL 1 , PRIORITY 0 ) : P ; "} {
+		eachToken(t, many("", one, api.MaxDecls, declFirst), unitError)
+	}
+}
