@@ -1,6 +1,14 @@
 package syntax
 
-import "slices"
+import (
+	"slices"
+
+	"governor/api"
+)
+
+func (p *parser) isName() bool {
+	return p.now().Kind == api.Word
+}
 
 // isOne tells whether one of these texts stands next.
 func (p *parser) isOne(texts ...string) bool {
@@ -9,4 +17,8 @@ func (p *parser) isOne(texts ...string) bool {
 
 func (p *parser) beginsDecl() bool {
 	return p.isOne("INTERFACE", "CLASS", "PROGRAM", "TASK")
+}
+
+func (p *parser) beginsStmt() bool {
+	return p.isName() || p.isOne("IF", "CASE", "WHILE", "FOR", "RETURN", "EXIT", "STEP", "THIS", "SUPER")
 }

@@ -17,6 +17,7 @@ const (
 	signs      = ":= ?= .. <> <= >= + - * / = < > ( ) [ ] , ; : ."
 	everyToken = keys + " " + signs + " x 5"
 	declFirst  = "INTERFACE CLASS PROGRAM TASK"
+	stmtFirst  = "IF CASE WHILE FOR RETURN EXIT STEP THIS SUPER x"
 )
 
 // within is a source that is at a limit, and one that is short of it. What goes on behind both is told of
@@ -77,5 +78,18 @@ func TestEveryToken(t *testing.T) {
 func TestDeclsAtLimit(t *testing.T) {
 	for _, one := range []string{"PROGRAM P ; END_PROGRAM ", "INTERFACE I ; END_INTERFACE ", "CLASS C ; END_CLASS ", "TASK T ( INTERVAL 1 , PRIORITY 0 ) : P ; "} {
 		eachToken(t, many("", one, api.MaxDecls, declFirst), unitError)
+	}
+}
+
+// lists are what stands ahead of each list that there is.
+var lists = []string{"PROGRAM P ; ", "PROGRAM P ; VAR v : INT ; ", "CLASS C ; METHOD M ( ) ; ", "PROGRAM P ; IF x THEN ", "PROGRAM P ; IF x THEN ELSIF x THEN ",
+	"PROGRAM P ; IF x THEN ELSE ", "PROGRAM P ; CASE x OF 1 : ", "PROGRAM P ; CASE x OF 1 : 2 , - 3 : ", "PROGRAM P ; CASE x OF ELSE ", "PROGRAM P ; WHILE x DO ",
+	"PROGRAM P ; FOR x := 1 TO 2 BY 1 DO "}
+
+func TestStmtsAtLimit(t *testing.T) {
+	for _, head := range lists {
+		for _, one := range []string{"EXIT ; ", "x := 1 ; ", "IF x THEN EXIT ; END_IF ; "} {
+			eachToken(t, many(head, one, api.MaxStmts, stmtFirst), unitError)
+		}
 	}
 }

@@ -2,24 +2,15 @@ package syntax
 
 import "governor/api"
 
-// list reads statements, up to the word that ends them.
+// list reads statements, as long as one begins.
 func (p *parser) list(deep int) []api.Stmt {
 	p.depth(deep)
 	var list []api.Stmt
-	for !p.ended() && !p.ends() {
+	for p.beginsStmt() {
 		p.room(len(list), api.MaxStmts)
 		list = append(list, p.stmt(deep))
 	}
 	return list
-}
-
-// ends tells whether what stands next ends a list: a CASE's ends ahead of a label, too.
-func (p *parser) ends() bool {
-	switch p.now().Text {
-	case "END_PROGRAM", "END_METHOD", "END_IF", "END_CASE", "END_WHILE", "END_FOR", "ELSIF", "ELSE":
-		return true
-	}
-	return p.isInt()
 }
 
 func (p *parser) stmt(deep int) api.Stmt {
