@@ -48,7 +48,7 @@ func (p *parser) class() api.Decl {
 		d.Base = p.name()
 	}
 	if p.take("IMPLEMENTS") {
-		d.Faces = several(p, api.MaxFaces, (*parser).name)
+		d.Faces = several(p, api.MaxFaces, (*parser).isName, (*parser).name)
 	}
 	p.need(";")
 	d.Vars = p.vars()
@@ -95,7 +95,7 @@ func (p *parser) signature(m api.Method) api.Method {
 	m.Name = p.name()
 	p.need("(")
 	if !p.is(")") {
-		m.Params = several(p, api.MaxParams, (*parser).param)
+		m.Params = several(p, api.MaxParams, (*parser).isName, (*parser).param)
 	}
 	p.need(")")
 	if p.take(":") {
@@ -195,11 +195,13 @@ func blockOf(text string) int {
 	return 0
 }
 
-// several reads one thing and, behind commas, more of them, as many as may be.
-func several[T any](p *parser, most int, one func(*parser) T) []T {
+// several reads one thing and, behind commas, more of them, as many as may be; begins tells whether one stands next.
+func several[T any](p *parser, most int, begins func(*parser) bool, one func(*parser) T) []T {
 	var all []T
 	for {
-		p.room(len(all), most)
+		if begins(p) {
+			p.room(len(all), most)
+		}
 		all = append(all, one(p))
 		if !p.take(",") {
 			return all

@@ -81,7 +81,7 @@ func (p *parser) invoke(on int, name string, deep int) api.Expr {
 	e := api.Expr{Kind: api.Invoke, N: on, Name: name, What: p.name()}
 	p.need("(")
 	if !p.is(")") {
-		e.Args = several(p, api.MaxParams, func(p *parser) api.Expr { return p.expr(deep + 1) })
+		e.Args = several(p, api.MaxParams, (*parser).beginsExpr, func(p *parser) api.Expr { return p.expr(deep + 1) })
 	}
 	p.need(")")
 	return e

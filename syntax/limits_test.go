@@ -93,3 +93,11 @@ func TestStmtsAtLimit(t *testing.T) {
 		}
 	}
 }
+
+func TestParamsAtLimit(t *testing.T) {
+	for _, head := range []string{"INTERFACE I ; METHOD M ( ", "CLASS C ; METHOD M ( ", "CLASS C ; METHOD OVERRIDE FINAL M ( "} {
+		for _, one := range []string{"a : INT , ", "a : REF_TO C , ", "a : INT ( - 1 .. 1 ) , "} {
+			eachToken(t, many(head, one, api.MaxParams, "x"), unitError)
+		}
+	}
+}

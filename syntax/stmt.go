@@ -79,7 +79,7 @@ func (p *parser) cases(deep int) api.Stmt {
 	p.need("OF")
 	for p.isInt() {
 		p.room(len(s.Labels), api.MaxParts)
-		s.Labels = append(s.Labels, several(p, api.MaxLabels, (*parser).int))
+		s.Labels = append(s.Labels, several(p, api.MaxLabels, (*parser).isInt, (*parser).int))
 		p.need(":")
 		s.Blocks = append(s.Blocks, p.list(deep+1))
 	}

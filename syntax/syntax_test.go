@@ -302,10 +302,10 @@ func TestSizes(t *testing.T) {
 		program("CASE a OF 1" + r(" , 1", 7) + " : END_CASE ;"), program("CASE a OF 1" + r(" , 1", 7) + " , ^- 1 : END_CASE ;"), program("CASE a OF 1" + r(" , 1", 7) + " , ^1 : END_CASE ;"),
 		program("CASE a OF " + r("1 : ", 6) + " ELSE END_CASE ;"), program("CASE a OF " + r("1 : ", 6) + " ^1 : END_CASE ;"), program("CASE a OF " + r("1 : ", 6) + " ^- 1 : END_CASE ;"),
 		program("IF a THEN " + r("ELSIF a THEN ", 5) + "ELSE END_IF ;"), program("IF a THEN " + r("ELSIF a THEN ", 5) + "^ELSIF a THEN END_IF ;"),
-		program("o . M ( 1 , 2 , 3 , ^) ;"),
 	} {
 		told(t, "P4.2", src, api.Size, unitError)
 	}
+	told(t, "P4.2", program("o . M ( 1 , 2 , 3 , ^) ;"), api.Syntax, unitError)
 	told(t, "P4.2", program(r("EXIT ; ", 24)+"^END_IF"), api.Syntax, unitError)
 	told(t, "P4.2", "CLASS C ; "+r("VAR x : INT ; ", 8)+"^x", api.Syntax, unitError)
 	told(t, "P4.2", "PROGRAM P ; o . M ( 1 , 2 , 3 , ^", api.Syntax, unitError)
