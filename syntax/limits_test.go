@@ -101,3 +101,9 @@ func TestParamsAtLimit(t *testing.T) {
 		}
 	}
 }
+
+func TestFacesAtLimit(t *testing.T) {
+	for _, head := range []string{"CLASS C IMPLEMENTS ", "CLASS FINAL C EXTENDS B IMPLEMENTS "} {
+		eachToken(t, many(head, "a , ", api.MaxFaces, "x"), unitError)
+	}
+}
