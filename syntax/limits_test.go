@@ -107,3 +107,11 @@ func TestFacesAtLimit(t *testing.T) {
 		eachToken(t, many(head, "a , ", api.MaxFaces, "x"), unitError)
 	}
 }
+
+func TestLabelsAtLimit(t *testing.T) {
+	for _, head := range []string{"PROGRAM P ; CASE x OF ", "PROGRAM P ; CASE x OF 1 : EXIT ; ", "CLASS C ; METHOD M ( ) ; WHILE x DO CASE x OF - 1 : 2 : "} {
+		for _, one := range []string{"1 , ", "- 1 , "} {
+			eachToken(t, many(head, one, api.MaxLabels, "- 5"), unitError)
+		}
+	}
+}
