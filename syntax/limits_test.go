@@ -18,6 +18,7 @@ const (
 	everyToken = keys + " " + signs + " x 5"
 	declFirst  = "INTERFACE CLASS PROGRAM TASK"
 	stmtFirst  = "IF CASE WHILE FOR RETURN EXIT STEP THIS SUPER x"
+	exprFirst  = "- NOT TRUE FALSE NULL THIS SUPER REF DONE COUNT AS ( x 5"
 )
 
 // within is a source that is at a limit, and one that is short of it. What goes on behind both is told of
@@ -112,6 +113,20 @@ func TestLabelsAtLimit(t *testing.T) {
 	for _, head := range []string{"PROGRAM P ; CASE x OF ", "PROGRAM P ; CASE x OF 1 : EXIT ; ", "CLASS C ; METHOD M ( ) ; WHILE x DO CASE x OF - 1 : 2 : "} {
 		for _, one := range []string{"1 , ", "- 1 , "} {
 			eachToken(t, many(head, one, api.MaxLabels, "- 5"), unitError)
+		}
+	}
+}
+
+func TestArgsAtLimit(t *testing.T) {
+	for _, call := range []string{"x . m ( ", "THIS . m ( ", "SUPER . m ( "} {
+		for _, one := range []string{"1 , ", "- x , ", "x . m ( ) , ", "( x + 1 ) , "} {
+			for _, head := range []string{"", "- ", "1 + ", "( a [ "} {
+				eachToken(t, many(head+call, one, api.MaxParams, exprFirst), exprError)
+			}
+			for _, head := range lists {
+				eachToken(t, many(head+call, one, api.MaxParams, exprFirst), unitError)
+				eachToken(t, many(head+"x := "+call, one, api.MaxParams, exprFirst), unitError)
+			}
 		}
 	}
 }
