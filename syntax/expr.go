@@ -4,7 +4,9 @@ import "governor/api"
 
 // expr reads an expression that is nested so deeply.
 func (p *parser) expr(deep int) api.Expr {
-	p.depth(deep)
+	if p.beginsExpr() {
+		p.depth(deep)
+	}
 	switch {
 	case p.take("-"):
 		return api.Expr{Kind: api.Neg, Args: []api.Expr{p.operand(deep)}}

@@ -130,3 +130,42 @@ func TestArgsAtLimit(t *testing.T) {
 		}
 	}
 }
+
+// inward are ways from an expression, or a statement, into the expression that is nested one deeper.
+var inward = []string{"( ", "- ( ", "NOT ( ", "1 + ( ", "a [ ", "1 + a [ ", "AS C ( ", "o . M ( ", "THIS . M ( ", "- SUPER . M ( "}
+
+// outermost are what stands ahead of a statement's expression; each of calls, ahead of one that is nested 2.
+var (
+	outermost = []string{"x := ", "x [ ", "x [ 1 ] := ", "x ?= ", "IF ", "IF x THEN ELSIF ", "CASE ", "WHILE ", "FOR x := ", "FOR x := 1 TO ", "STEP x ( ", "STEP x ( 1 , "}
+	calls     = []string{"o . M ( 1 , ", "THIS . M ( 1 , 2 , ", "SUPER . M ( 1 , "}
+)
+
+func deepExpr(head string, one string, most int) within {
+	return within{head + strings.Repeat(one, most-1), head + strings.Repeat(one, most), exprFirst, api.Deep}
+}
+
+func TestDeepExprsAtLimit(t *testing.T) {
+	for _, one := range inward {
+		eachToken(t, deepExpr("", one, api.MaxDeep), exprError)
+		for _, head := range outermost {
+			eachToken(t, deepExpr("PROGRAM P ; "+head, one, api.MaxDeep), unitError)
+		}
+		for _, head := range calls {
+			eachToken(t, deepExpr("PROGRAM P ; "+head, one, api.MaxDeep-1), unitError)
+		}
+		for _, head := range lists {
+			eachToken(t, deepExpr(head+"RETURN x + ( ", one, api.MaxDeep-1), unitError)
+		}
+	}
+}
+
+// TestDeepNone holds of a call that is handed nothing that nothing is too deep.
+func TestDeepNone(t *testing.T) {
+	for _, call := range []string{"x . m ( ", "THIS . m ( ", "SUPER . m ( "} {
+		full := strings.Repeat("( ", api.MaxDeep-1) + call
+		eachToken(t, within{strings.Repeat("( ", api.MaxDeep-2) + call, full, exprFirst, api.Deep}, exprError)
+		if got := atLast(full+")", exprError); got != api.Fine {
+			t.Errorf("P4.2: %q: %d", full+")", got)
+		}
+	}
+}

@@ -260,9 +260,10 @@ func TestDeepExprs(t *testing.T) {
 	for _, src := range []string{nested(5, "a"), nested(4, "a [ 1 ]"), nested(6, "^a"), nested(6, "^- a"), nested(6, "^( a )"),
 		nested(6, "^THIS . M ( )"), nested(5, "a [ ^1 ]"), nested(5, "o . M ( ^1 )"), nested(4, "o . M ( 1 )"), nested(5, "o . M ( )"), nested(5, "AS C ( ^a )"),
 		nested(4, "AS C ( a )"), nested(5, "REF ( a )"), "1 + " + nested(6, "^a"), "- " + nested(5, "a"), "- " + nested(6, "^a"),
-		"a [ a [ a [ a [ a [ a [ ^a ] ] ] ] ] ]", "a [ a [ a [ a [ a [ a ] ] ] ] ]", nested(6, "^;")} {
+		"a [ a [ a [ a [ a [ a [ ^a ] ] ] ] ] ]", "a [ a [ a [ a [ a [ a ] ] ] ] ]"} {
 		told(t, "P4.2", src, api.Deep, exprError)
 	}
+	told(t, "P4.2", nested(6, "^;"), api.Syntax, exprError)
 	told(t, "P4.2", "( ( ( ( ( ( ^", api.Syntax, exprError)
 	told(t, "P4.2", "( ( ( ( ( ( ^a", api.Deep, exprError)
 	for _, src := range []string{"x := " + nested(6, "^a") + " ;", "x := " + nested(5, "a") + " ;", "x [ " + nested(6, "^a") + " ] := 1 ;", "x [ 1 ] := " + nested(6, "^a") + " ;",
