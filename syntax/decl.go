@@ -65,7 +65,7 @@ func (p *parser) program() api.Decl {
 	d := api.Decl{Kind: api.Program, Name: p.name()}
 	p.need(";")
 	d.Vars = p.vars()
-	d.Body = p.list(1)
+	d.Body = p.list(1, p.is("END_PROGRAM"))
 	p.need("END_PROGRAM")
 	return d
 }
@@ -85,7 +85,7 @@ func (p *parser) task() api.Decl {
 func (p *parser) method() api.Method {
 	m := p.signature(api.Method{Over: p.take("OVERRIDE"), Abstract: p.take("ABSTRACT"), Final: p.take("FINAL")})
 	m.Vars = p.vars()
-	m.Body = p.list(1)
+	m.Body = p.list(1, p.is("END_METHOD"))
 	p.need("END_METHOD")
 	return m
 }

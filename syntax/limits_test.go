@@ -169,3 +169,28 @@ func TestDeepNone(t *testing.T) {
 		}
 	}
 }
+
+// TestDeepListsAtLimit holds of each list within a statement with which tokens it begins, or ends where it is empty.
+func TestDeepListsAtLimit(t *testing.T) {
+	for open, ends := range map[string]string{"WHILE x DO ": "END_WHILE", "FOR x := 1 TO 2 BY - 1 DO ": "END_FOR", "IF x THEN ": "ELSIF ELSE END_IF",
+		"CASE x OF 1 : ": "5 - ELSE END_CASE", "CASE x OF 1 , - 1 : ": "5 - ELSE END_CASE", "CASE x OF ELSE ": "END_CASE"} {
+		for _, one := range []string{"WHILE x DO ", "IF x THEN ", "IF x THEN ELSIF x THEN EXIT ; ELSE ", "CASE x OF 1 : 2 : ", "CASE x OF 1 : ELSE EXIT ; ", "FOR x := 1 TO 2 BY 1 DO "} {
+			for _, head := range []string{"PROGRAM P ; ", "CLASS C ; METHOD M ( ) ; EXIT ; "} {
+				short := head + strings.Repeat(one, api.MaxDeep-2)
+				eachToken(t, within{short + open, short + one + open, stmtFirst + " " + ends, api.Deep}, unitError)
+			}
+		}
+	}
+}
+
+// TestOthersAtLimit holds of methods, variables and alternatives what the tests above hold of the rest.
+func TestOthersAtLimit(t *testing.T) {
+	for _, l := range []within{
+		many("CLASS C ; ", "METHOD M ( ) ; END_METHOD ", api.MaxMethods, "METHOD"), many("INTERFACE I ; ", "METHOD M ( ) : INT ; ", api.MaxMethods, "METHOD"),
+		many("CLASS C ; ", "VAR x : INT ; ", api.MaxVars, "VAR"), many("PROGRAM P ; ", "VAR x : INT ; ", api.MaxVars, "VAR"), many("CLASS C ; METHOD M ( ) ; ", "VAR x : INT ; ", api.MaxVars, "VAR"),
+		many("PROGRAM P ; IF x THEN ", "ELSIF x THEN ", api.MaxParts-1, "ELSIF"), many("PROGRAM P ; IF x THEN EXIT ; ", "ELSIF x THEN EXIT ; ", api.MaxParts-1, "ELSIF"),
+		many("PROGRAM P ; CASE x OF ", "1 : ", api.MaxParts, "5 -"), many("PROGRAM P ; CASE x OF ", "- 1 , 2 : EXIT ; ", api.MaxParts, "5 -"),
+	} {
+		eachToken(t, l, unitError)
+	}
+}

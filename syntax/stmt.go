@@ -2,9 +2,11 @@ package syntax
 
 import "governor/api"
 
-// list reads statements, as long as one begins.
-func (p *parser) list(deep int) []api.Stmt {
-	p.depth(deep)
+// list reads statements, as long as one begins; ends tells whether an empty list may end ahead of what stands next.
+func (p *parser) list(deep int, ends bool) []api.Stmt {
+	if ends || p.beginsStmt() {
+		p.depth(deep)
+	}
 	var list []api.Stmt
 	for p.beginsStmt() {
 		p.room(len(list), api.MaxStmts)
@@ -62,15 +64,14 @@ func (p *parser) choice(deep int) api.Stmt {
 	for {
 		s.Exprs = append(s.Exprs, p.expr(1))
 		p.need("THEN")
-		s.Blocks = append(s.Blocks, p.list(deep+1))
+		s.Blocks = append(s.Blocks, p.list(deep+1, p.isOne("ELSIF", "ELSE", "END_IF")))
 		if !p.is("ELSIF") {
 			break
 		}
 		p.room(len(s.Exprs), api.MaxParts)
 		p.take("ELSIF")
 	}
-	s.Blocks = append(s.Blocks, p.otherwise(deep+1))
-	p.need("END_IF")
+	s.Blocks = append(s.Blocks, p.otherwise(deep+1, "END_IF"))
 	return s
 }
 
@@ -81,24 +82,26 @@ func (p *parser) cases(deep int) api.Stmt {
 		p.room(len(s.Labels), api.MaxParts)
 		s.Labels = append(s.Labels, several(p, api.MaxLabels, (*parser).isInt, (*parser).int))
 		p.need(":")
-		s.Blocks = append(s.Blocks, p.list(deep+1))
+		s.Blocks = append(s.Blocks, p.list(deep+1, p.isInt() || p.isOne("ELSE", "END_CASE")))
 	}
-	s.Blocks = append(s.Blocks, p.otherwise(deep+1))
-	p.need("END_CASE")
+	s.Blocks = append(s.Blocks, p.otherwise(deep+1, "END_CASE"))
 	return s
 }
 
-func (p *parser) otherwise(deep int) []api.Stmt {
-	if !p.take("ELSE") {
-		return nil
+// otherwise reads ELSE and its list, if they stand there, and the word that ends the statement.
+func (p *parser) otherwise(deep int, end string) []api.Stmt {
+	var list []api.Stmt
+	if p.take("ELSE") {
+		list = p.list(deep, p.is(end))
 	}
-	return p.list(deep)
+	p.need(end)
+	return list
 }
 
 func (p *parser) while(deep int) api.Stmt {
 	s := api.Stmt{Kind: api.While, Exprs: []api.Expr{p.expr(1)}}
 	p.need("DO")
-	s.Blocks = [][]api.Stmt{p.list(deep + 1)}
+	s.Blocks = [][]api.Stmt{p.list(deep+1, p.is("END_WHILE"))}
 	p.need("END_WHILE")
 	return s
 }
@@ -112,7 +115,7 @@ func (p *parser) loop(deep int) api.Stmt {
 	p.need("BY")
 	s.N = p.int()
 	p.need("DO")
-	s.Blocks = [][]api.Stmt{p.list(deep + 1)}
+	s.Blocks = [][]api.Stmt{p.list(deep+1, p.is("END_FOR"))}
 	p.need("END_FOR")
 	return s
 }
